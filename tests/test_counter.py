@@ -73,11 +73,33 @@ class GiveTest(unittest.TestCase):
         self.assertEqual(last(*ONE, *used_for(5), hire(5), ("days", 1), ("give", 1)), -12)
         self.assertEqual(last(*ONE, *used_for(6), hire(6), ("days", 1), ("give", 1)), -12)
 
-    def test_what_is_out_comes_ahead_of_the_service(self):
-        # The first hire is given while the skis have 4 days; the second one waits, then they have 10.
+    def test_late_skis_are_to_be_served_once_they_are_back(self):
         told = ask(*ONE, *used_for(4), hire(3, 1), hire(4, 1), ("give", 1), ("days", 5), ("give", 2), ("back", 1),
                    ("give", 2), ("serve", 0), ("give", 2))
         self.assertEqual(told[-5:], [-17, (30 + 35, 5), -12, 10, 42])
+
+    def test_what_is_out_comes_ahead_of_the_service(self):
+        # The boots are out late with the tall guest's skis, while the others are to be served.
+        tall = ("guest", 70, 205, 30, 1, 270)
+        shop = SHOP + [SKI, ("ski", 190, 0, 10, 100), BOOT, GUEST, tall]
+        told = ask(*shop, *used_for(5), hire(4, 1, g=1), hire(5, 1), ("give", 1), ("days", 1), ("give", 2), ("back", 1),
+                   ("give", 2))
+        self.assertEqual(told[-7:], [(1, 1, 0, 42), (2, 0, 0, 42), 42, 5, -17, (37, 1), -12])
+
+    def test_what_is_out_comes_ahead_of_the_setting(self):
+        told = ask(*ONE, GUEST, hire(0, 1), hire(1, 1, g=1), ("becomes", 1, 60, 175, 30, 1), ("give", 0), ("days", 1),
+                   ("give", 1), ("back", 0), ("give", 1))
+        self.assertEqual(told[-5:], [42, 1, -17, (37, 1), -33])
+
+    def test_the_first_day_comes_ahead_of_the_setting(self):
+        told = ask(*ONE, hire(1), ("becomes", 0, 60, 175, 30, 1), ("give", 0), ("days", 1), ("give", 0))
+        self.assertEqual(told[-3:], [-13, 1, -33])
+
+    def test_not_booked_comes_ahead_of_all_that_follows(self):
+        told = ask(*ONE, hire(0), ("cancel", 0), hire(0), ("give", 1), ("give", 0), ("give", 1))
+        self.assertEqual(told[-3:], [42, -16, -16])
+        self.assertEqual(last(*ONE, *used_for(5), ("give", 0)), -16)
+        self.assertEqual(last(*ONE, hire(), ("cancel", 0), ("becomes", 0, 60, 175, 30, 1), ("give", 0)), -16)
 
     def test_skis_served_in_the_midst(self):
         told = ask(*ONE, *used_for(3), ("serve", 0), hire(2, 4), ("give", 1), ("days", 3), ("back", 1), hire(6, 1),
