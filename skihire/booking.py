@@ -1,9 +1,10 @@
-"""The calls that book and call off: hire, cancel."""
+"""The calls that book, call off, and change what is booked: hire, cancel, swap."""
 
-from skihire.fitting import binding_setting
+from skihire.fitting import binding_setting, skis_suit
 from skihire.pairs import best_pair, pairs_to_hire
 from skihire.records import BOOKED, CALLED_OFF, Hire
-from skihire.refusals import CANNOT_BE, NONE_SUCH, NOT_SO, OUT_OF_RANGE, TOO_MANY
+from skihire.refusals import ALREADY, CANNOT_BE, NONE_SUCH, NOT_SO, OUT_OF_RANGE, TOO_MANY
+from skihire.taking import last_day, ski_taken
 
 HIRES_AT_MOST = 40
 DAYS_AT_MOST = 30
@@ -45,3 +46,30 @@ def cancel_hire(shop, h):
         return [NOT_SO]
     hire.state = CALLED_OFF
     return [0]
+
+
+def fits_in_place(shop, hire, s):
+    """Whether skis could be had in the place of a hire's own, if they aren't taken."""
+    ski = shop.skis[s]
+    if ski.kind != shop.skis[hire.ski].kind:
+        return False
+    guest = shop.guests[hire.guest]
+    return skis_suit(ski, guest, binding_setting(shop.chart, guest, shop.boots[hire.boot]))
+
+
+def swap_skis(shop, h, s):
+    """Let a hire have other skis."""
+    if h >= len(shop.hires) or s >= len(shop.skis):
+        return [NONE_SUCH]
+    hire = shop.hires[h]
+    if hire.state != BOOKED:
+        return [NOT_SO]
+    if hire.ski == s:
+        return [ALREADY]
+    if ski_taken(shop, s, hire.day, last_day(hire)):
+        return [TOO_MANY]
+    if not fits_in_place(shop, hire, s):
+        return [CANNOT_BE]
+    had = hire.ski
+    hire.ski = s
+    return [had]

@@ -1,6 +1,7 @@
 """The calls of every day: give, back, serve, days."""
 
 from skihire.fitting import binding_setting, setting_fits
+from skihire.pricing import hire_costs
 from skihire.records import BOOKED, OUT, RETURNED
 from skihire.refusals import ALREADY, CANNOT_BE, NONE_SUCH, NOT_NOW, NOT_SO, OUT_OF_RANGE, SERVE_FIRST
 from skihire.taking import boot_out, days_late, ski_out
@@ -30,13 +31,8 @@ def give_out(shop, h):
     return [setting]
 
 
-def price_of(shop, days):
-    """What so many days cost."""
-    return shop.first + shop.more * (days - 1)
-
-
 def take_back(shop, h):
-    """Take a hire's things back; all booked days are paid, even if it's early."""
+    """Take a hire's things back."""
     if h >= len(shop.hires):
         return [NONE_SUCH]
     hire = shop.hires[h]
@@ -46,9 +42,10 @@ def take_back(shop, h):
     used = shop.today - hire.day + 1
     ski.used = ski.used + used
     ski.used_since = ski.used_since + used
+    pays = hire_costs(shop, hire)
+    shop.paid = shop.paid + pays
     hire.state = RETURNED
-    late = days_late(hire, shop.today)
-    return [price_of(shop, hire.days) + shop.fine * late, late]
+    return [pays, days_late(hire, shop.today)]
 
 
 def serve_skis(shop, s):

@@ -61,8 +61,6 @@ def boots_suit(boot, guest):
     return 0 <= boots_too_long(boot, guest) <= BOOTS_TOO_LONG_AT_MOST
 
 
-def skis_suit(chart, ski, guest, boot):
-    """Whether skis suit a guest in boots, be these the right ones or not."""
-    if length_off(ski, guest) > LENGTH_OFF_AT_MOST:
-        return False
-    return setting_fits(ski, binding_setting(chart, guest, boot))
+def skis_suit(ski, guest, setting):
+    """Whether skis suit a guest in boots that ask for such a setting."""
+    return length_off(ski, guest) <= LENGTH_OFF_AT_MOST and setting_fits(ski, setting)

@@ -1,6 +1,6 @@
 """The pairs of skis and boots that could be hired, and the best of them."""
 
-from skihire.fitting import boots_suit, boots_too_long, length_off, skis_suit
+from skihire.fitting import binding_setting, boots_suit, boots_too_long, length_off, skis_suit
 from skihire.taking import boot_taken, ski_taken
 
 
@@ -27,8 +27,9 @@ def pairs_to_hire(shop, guest, first, last, kind):
     skis = free_skis(shop, kind, first, last)
     pairs = []
     for b in fitting_boots(shop, guest, first, last):
+        setting = binding_setting(shop.chart, guest, shop.boots[b])
         for s in skis:
-            if skis_suit(shop.chart, shop.skis[s], guest, shop.boots[b]):
+            if skis_suit(shop.skis[s], guest, setting):
                 pairs.append((s, b))
     return pairs
 

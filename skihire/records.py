@@ -68,6 +68,7 @@ class Shop:
         self.fine = fine
         self.service = service
         self.today = 0
+        self.paid = 0
         self.chart = None
         self.skis = []
         self.boots = []

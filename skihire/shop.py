@@ -1,17 +1,17 @@
 """The shop's one door: a list of calls goes in, a list of answers comes out."""
 
-from skihire.asking import tell_code, tell_ideal, tell_setting
-from skihire.booking import book_hire, cancel_hire
+from skihire.asking import tell_boots, tell_choices, tell_code, tell_could, tell_ideal, tell_longest, tell_setting
+from skihire.asking import tell_skis
+from skihire.booking import book_hire, cancel_hire, swap_skis
+from skihire.books import tell_bill, tell_busy, tell_due, tell_look, tell_plan, tell_price, tell_state, tell_sums
+from skihire.books import tell_worn
 from skihire.counter import give_out, pass_days, serve_skis, take_back
-from skihire.reading import BACK, BECOMES, BEGIN, BOOT, CANCEL, CHART, CODE, DAYS, GIVE, GUEST, HIRE
-from skihire.reading import IDEAL, SERVE, SETTING, SKI, needs_chart, read_calls
+from skihire.reading import BACK, BECOMES, BEGIN, BILL, BOOT, BOOTS, BUSY, CANCEL, CHART, CHOICES, CODE, COULD, DAYS
+from skihire.reading import DUE, GIVE, GUEST, HIRE, IDEAL, LONGEST, LOOK, PLAN, PRICE, SERVE, SETTING, SKI, SKIS
+from skihire.reading import SUMS, SWAP, WORN, needs_chart, read_calls
 from skihire.records import Line
 from skihire.refusals import NO_CHART, NOT_BEGUN
 from skihire.stock import add_boot, add_guest, add_ski, begin, change_guest, put_chart
-
-
-class NoSuchCall(Exception):
-    """A call that the program doesn't know."""
 
 
 def answer_stock(shop, number, given):
@@ -43,12 +43,43 @@ def answer_hires(shop, number, given):
 
 
 def answer_asking(shop, number, given):
-    """Answer a call that looks at what suits a guest."""
+    """Answer a call that looks at what suits a guest, or what they could hire."""
     if number == CODE:
         return tell_code(shop, given[0])
     if number == SETTING:
         return tell_setting(shop, given[0], given[1])
-    return tell_ideal(shop, given[0])
+    if number == IDEAL:
+        return tell_ideal(shop, given[0])
+    if number == BOOTS:
+        return tell_boots(shop, given[0])
+    if number == SKIS:
+        return tell_skis(shop, given[0], given[1])
+    if number == COULD:
+        return tell_could(shop, given[0], given[1], given[2], given[3])
+    if number == CHOICES:
+        return tell_choices(shop, given[0], given[1], given[2], given[3])
+    return tell_longest(shop, given[0], given[1], given[2])
+
+
+def answer_books(shop, number, given):
+    """Answer a call that looks at hires, days, prices or wear."""
+    if number == PLAN:
+        return tell_plan(shop, given[0])
+    if number == DUE:
+        return tell_due(shop)
+    if number == BUSY:
+        return tell_busy(shop, given[0])
+    if number == BILL:
+        return tell_bill(shop, given[0])
+    if number == PRICE:
+        return tell_price(shop, given[0])
+    if number == WORN:
+        return tell_worn(shop)
+    if number == LOOK:
+        return tell_look(shop, given[0])
+    if number == SUMS:
+        return tell_sums(shop)
+    return tell_state(shop)
 
 
 def answer_begun(shop, number, given):
@@ -57,9 +88,11 @@ def answer_begun(shop, number, given):
         return answer_stock(shop, number, given)
     if number <= DAYS:
         return answer_hires(shop, number, given)
-    if number <= IDEAL:
+    if number <= LONGEST:
         return answer_asking(shop, number, given)
-    raise NoSuchCall(number)
+    if number == SWAP:
+        return swap_skis(shop, given[0], given[1])
+    return answer_books(shop, number, given)
 
 
 def answer_call(line, number, given):

@@ -4,7 +4,15 @@ from skihire.shop import answers
 
 NUMBER_OF = {
     "begin": 0, "chart": 1, "ski": 2, "boot": 3, "guest": 4, "becomes": 5, "hire": 6, "cancel": 7,
-    "give": 8, "back": 9, "serve": 10, "days": 11, "code": 12, "setting": 13, "ideal": 14,
+    "give": 8, "back": 9, "serve": 10, "days": 11, "code": 12, "setting": 13, "ideal": 14, "boots": 15,
+    "skis": 16, "could": 17, "choices": 18, "longest": 19, "swap": 20, "plan": 21, "due": 22, "busy": 23,
+    "bill": 24, "price": 25, "worn": 26, "look": 27, "sums": 28, "state": 29,
+}
+
+# How many whole numbers each call has, the chart aside.
+GIVEN = {
+    0: 4, 2: 4, 3: 2, 4: 5, 5: 5, 6: 4, 7: 1, 8: 1, 9: 1, 10: 1, 11: 1, 12: 1, 13: 2, 14: 1, 15: 1, 16: 2,
+    17: 4, 18: 4, 19: 3, 20: 2, 21: 1, 22: 0, 23: 1, 24: 1, 25: 1, 26: 0, 27: 1, 28: 0, 29: 0,
 }
 
 HUGE = 4294967295

@@ -1,8 +1,9 @@
-"""code, setting, ideal."""
+"""code, setting, ideal, boots, skis."""
 
 import unittest
 
-from tests.lines import BEGIN, GUEST, HUGE, SHOP, ask, last
+from skihire.shop import answers
+from tests.lines import BEGIN, BOOT, GUEST, HUGE, SHOP, SKI, ask, flat, last
 
 
 def code(weight, height, age, manner):
@@ -109,6 +110,103 @@ class IdealTest(unittest.TestCase):
     def test_none_such(self):
         self.assertEqual(ask(BEGIN, ("ideal", 0), GUEST, ("ideal", 0), ("ideal", 1), ("ideal", HUGE)),
                          [0, -2, 0, 160, -2, -2])
+
+
+class BootsTest(unittest.TestCase):
+    def boots(self, *feet):
+        return last(BEGIN, GUEST, *[("boot", foot, 300) for foot in feet], ("boots", 0))
+
+    def test_none_one_and_several(self):
+        self.assertEqual(self.boots(), 0)
+        self.assertEqual(self.boots(200, 300), 0)
+        self.assertEqual(self.boots(200, 270, 300), (1, 1))
+        self.assertEqual(self.boots(280, 200, 270, 275, 300, 271), (4, 0, 2, 3, 5))
+        self.assertEqual(self.boots(*[270] * 16), (16,) + tuple(range(16)))
+
+    def test_how_many_numbers_are_answered(self):
+        self.assertEqual(answers(flat([BEGIN, GUEST, ("boots", 0)])), [1, 0, 1, 0, 1, 0])
+        self.assertEqual(answers(flat([BEGIN, GUEST, BOOT, BOOT, ("boots", 0)]))[-4:], [3, 2, 0, 1])
+
+    def test_10_too_long_and_11(self):
+        self.assertEqual(self.boots(269, 270, 280, 281), (2, 1, 2))
+
+    def test_the_ends_of_the_feet(self):
+        boots = [("boot", 150, 300), ("boot", 350, 300)]
+        for foot, answer in ((150, (1, 0)), (151, 0), (339, 0), (340, (1, 1)), (350, (1, 1))):
+            self.assertEqual(last(BEGIN, *boots, ("guest", 70, 175, 30, 1, foot), ("boots", 0)), answer, foot)
+
+    def test_each_guest_has_their_own(self):
+        told = ask(BEGIN, BOOT, ("boot", 230, 280), GUEST, ("guest", 70, 175, 30, 1, 225), ("boots", 0), ("boots", 1))
+        self.assertEqual(told[-2:], [(1, 0), (1, 1)])
+
+    def test_neither_sole_nor_setting_nor_hires_count(self):
+        self.assertEqual(last(*SHOP, GUEST, ("boot", 270, 400), ("boots", 0)), (1, 0))
+        self.assertEqual(last(*SHOP, SKI, BOOT, GUEST, ("hire", 0, 0, 1, 0), ("give", 0), ("boots", 0)), (1, 0))
+
+    def test_the_foot_stays_whatever_a_guest_becomes(self):
+        self.assertEqual(last(BEGIN, BOOT, GUEST, ("becomes", 0, 150, 210, 99, 3), ("boots", 0)), (1, 0))
+
+    def test_none_such(self):
+        self.assertEqual(ask(BEGIN, ("boots", 0), GUEST, ("boots", 0), ("boots", 1), ("boots", HUGE)),
+                         [0, -2, 0, 0, -2, -2])
+
+
+class SkisTest(unittest.TestCase):
+    def skis(self, *skis, boot=BOOT, guest=GUEST):
+        return last(*SHOP, *skis, boot, guest, ("skis", 0, 0))
+
+    def test_none_one_and_several(self):
+        off = ("ski", 100, 0, 5, 240)
+        self.assertEqual(self.skis(), 0)
+        self.assertEqual(self.skis(off, off), 0)
+        self.assertEqual(self.skis(off, SKI, off), (1, 1))
+        self.assertEqual(self.skis(SKI, off, SKI, SKI), (3, 0, 2, 3))
+        self.assertEqual(self.skis(*[SKI] * 16), (16,) + tuple(range(16)))
+
+    def test_how_many_numbers_are_answered(self):
+        self.assertEqual(answers(flat(SHOP + [SKI, SKI, BOOT, GUEST, ("skis", 0, 0)]))[-4:], [3, 2, 0, 1])
+
+    def test_of_any_kind(self):
+        self.assertEqual(self.skis(*[("ski", 160, kind, 10, 100) for kind in (2, 0, 1)]), (3, 0, 1, 2))
+
+    def test_lengths(self):
+        self.assertEqual(self.skis(*[("ski", length, 0, 5, 240) for length in (149, 150, 160, 170, 171)]), (3, 1, 2, 3))
+        faster = ("guest", 70, 175, 30, 3, 270)
+        self.assertEqual(self.skis(*[("ski", length, 0, 5, 240) for length in (159, 160, 180, 181)], guest=faster),
+                         (2, 1, 2))
+
+    def test_settings(self):
+        ranges = ((42, 42), (43, 240), (5, 41), (42, 240), (5, 42))
+        self.assertEqual(self.skis(*[("ski", 160, 0, least, most) for least, most in ranges]), (3, 0, 3, 4))
+
+    def test_a_setting_of_0_between_others_and_a_sole_longer_than_all(self):
+        guest = ("guest", 60, 170, 30, 1, 270)
+        wide = ("ski", 155, 0, 5, 240)
+        for sole, answer in ((250, (1, 0)), (251, 0), (300, 0), (301, (1, 0)), (350, (1, 0)), (351, 0), (400, 0)):
+            self.assertEqual(self.skis(wide, boot=("boot", 270, sole), guest=guest), answer, sole)
+
+    def test_boots_need_not_suit(self):
+        for foot in (150, 269, 281, 350):
+            self.assertEqual(self.skis(SKI, boot=("boot", foot, 300)), (1, 0), foot)
+
+    def test_it_is_these_boots_and_this_guest_that_count(self):
+        skis = [("ski", 160, 0, 42, 42), ("ski", 160, 0, 44, 44), ("ski", 130, 0, 5, 240)]
+        told = ask(*SHOP, *skis, BOOT, ("boot", 270, 350), GUEST, ("guest", 30, 140, 30, 1, 220), ("skis", 0, 0),
+                   ("skis", 0, 1), ("skis", 1, 0))
+        self.assertEqual(told[-3:], [(1, 0), (1, 1), (1, 2)])
+
+    def test_hires_do_not_count_but_what_the_guest_became_does(self):
+        told = ask(*SHOP, SKI, BOOT, GUEST, ("hire", 0, 0, 1, 0), ("give", 0), ("skis", 0, 0),
+                   ("becomes", 0, 70, 186, 30, 1), ("skis", 0, 0))
+        self.assertEqual((told[-3], told[-1]), ((1, 0), 0))
+
+    def test_none_such(self):
+        told = ask(*SHOP, ("skis", 0, 0), GUEST, ("skis", 0, 0), BOOT, ("skis", 1, 0), ("skis", 0, 1), ("skis", HUGE, 0),
+                   ("skis", 0, HUGE), ("skis", 0, 0))
+        self.assertEqual(told[2:], [-2, 0, -2, 0, -2, -2, -2, -2, 0])
+
+    def test_no_chart_comes_first(self):
+        self.assertEqual(ask(BEGIN, SKI, BOOT, GUEST, ("skis", 0, 0), ("skis", 9, 9))[-2:], [-6, -6])
 
 
 if __name__ == "__main__":

@@ -3,17 +3,13 @@
 import unittest
 
 from skihire.shop import answers
-from tests.lines import BEGIN, BOOT, CHART, GUEST, HUGE, SHOP, SKI, ask, flat, last
-
-# How many whole numbers the calls 2 to 29 have.
-GIVEN = {
-    2: 4, 3: 2, 4: 5, 5: 5, 6: 4, 7: 1, 8: 1, 9: 1, 10: 1, 11: 1, 12: 1, 13: 2, 14: 1, 15: 1, 16: 2,
-    17: 4, 18: 4, 19: 3, 20: 2, 21: 1, 22: 0, 23: 1, 24: 1, 25: 1, 26: 0, 27: 1, 28: 0, 29: 0,
-}
+from tests.lines import BEGIN, BOOT, CHART, GIVEN, GUEST, HUGE, SHOP, SKI, ask, flat, last
 
 EVERY_OTHER = [
     CHART, SKI, BOOT, GUEST, ("becomes", 0, 70, 175, 30, 1), ("hire", 0, 0, 1, 0), ("cancel", 0),
-    ("give", 0), ("back", 0), ("serve", 0), ("days", 1), ("code", 0), ("setting", 0, 0), ("ideal", 0),
+    ("give", 0), ("back", 0), ("serve", 0), ("days", 1), ("code", 0), ("setting", 0, 0), ("ideal", 0), ("boots", 0),
+    ("skis", 0, 0), ("could", 0, 0, 1, 0), ("choices", 0, 0, 1, 0), ("longest", 0, 0, 0), ("swap", 0, 0), ("plan", 0),
+    ("due",), ("busy", 0), ("bill", 0), ("price", 1), ("worn",), ("look", 0), ("sums",), ("state",),
 ]
 
 
@@ -54,9 +50,10 @@ class NotBegunTest(unittest.TestCase):
         self.assertEqual(ask(("chart", [], [], [], []), ("ski", 0, HUGE, HUGE, 0), ("days", 0)), [-11] * 3)
 
     def test_each_number_of_a_call_with_all_it_is_given(self):
-        for number, many in GIVEN.items():
+        for number in range(2, 30):
             for value in (0, HUGE):
-                self.assertEqual(answers([number] + [value] * many + flat([BEGIN])), [1, -11, 1, 0], number)
+                line = [number] + [value] * GIVEN[number] + flat([BEGIN])
+                self.assertEqual(answers(line), [1, -11, 1, 0], number)
 
     def test_nothing_of_what_was_not_begun_is_there(self):
         told = ask(CHART, SKI, BOOT, GUEST, BEGIN, ("ideal", 0), ("serve", 0), ("code", 0), SKI, BOOT, GUEST)
@@ -88,19 +85,26 @@ class BeginAgainTest(unittest.TestCase):
 
 
 class NoChartTest(unittest.TestCase):
-    def test_no_chart_comes_ahead_of_none(self):
-        for call in [("hire", 9, HUGE, 0, 9), ("give", 9), ("code", 9), ("setting", 9, 9)]:
-            self.assertEqual(ask(BEGIN, call), [0, -6], call)
+    NEED_ONE = (6, 8, 12, 13, 16, 17, 18, 19, 20)
 
-    def test_the_later_calls_that_need_a_chart(self):
-        for number in (16, 17, 18, 19, 20):
-            line = flat([BEGIN]) + [number] + [HUGE] * GIVEN[number]
-            self.assertEqual(answers(line), [1, 0, 1, -6], number)
+    def test_no_chart_comes_ahead_of_all_else_that_is_due(self):
+        for number in self.NEED_ONE:
+            for value in (0, 9, HUGE):
+                line = flat([BEGIN]) + [number] + [value] * GIVEN[number]
+                self.assertEqual(answers(line), [1, 0, 1, -6], number)
+
+    def test_no_other_call_needs_one(self):
+        for number in GIVEN:
+            if number not in self.NEED_ONE:
+                self.assertNotIn(-6, answers(flat([BEGIN]) + [number] + [0] * GIVEN[number])[3:], number)
 
     def test_the_others_do_without_one(self):
         told = ask(BEGIN, SKI, BOOT, GUEST, ("becomes", 0, 70, 180, 30, 1), ("ideal", 0), ("serve", 0), ("days", 1),
                    ("cancel", 0), ("back", 0), ("ideal", 1), ("serve", 1), ("becomes", 1, 70, 180, 30, 1))
         self.assertEqual(told, [0, 0, 0, 0, 0, 165, 0, 1, -2, -2, -2, -2, -2])
+        told = ask(BEGIN, SKI, BOOT, GUEST, ("boots", 0), ("plan", 0), ("due",), ("busy", 0), ("bill", 0), ("price", 1),
+                   ("worn",), ("look", 0), ("sums",), ("state",), ("boots", 1), ("plan", 1))
+        self.assertEqual(told[4:], [(1, 0), 0, 0, (0, 0), -2, 30, 0, -2, (0, 0, 0, 0, 0), (0, 0, 1, 1, 1, 0, 0), -2, -2])
 
     def test_a_refused_chart_is_none(self):
         self.assertEqual(ask(BEGIN, GUEST, ("chart", [], [], [], []), ("code", 0)), [0, 0, -22, -6])

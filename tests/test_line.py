@@ -4,15 +4,22 @@ import random
 import unittest
 
 from skihire.shop import answers
-from tests.lines import BEGIN, BOOT, CHART, GUEST, HUGE, SHOP, SKI, ask, flat
+from tests.lines import BEGIN, BOOT, CHART, GIVEN, GUEST, HUGE, NUMBER_OF, SHOP, SKI, ask, flat, told_apart
 
 BOOKED, OUT, ENDED = "booked", "out", "ended"
 
-LOOKING = ("code", "setting", "ideal")
-
 EVERY_CALL = SHOP + [
     SKI, BOOT, GUEST, ("becomes", 0, 71, 176, 31, 1), ("hire", 0, 0, 2, 0), ("hire", 0, 5, 2, 0), ("cancel", 1),
-    ("give", 0), ("days", 3), ("back", 0), ("serve", 0), ("code", 0), ("setting", 0, 0), ("ideal", 0),
+    ("give", 0), ("days", 3), ("back", 0), ("serve", 0), ("code", 0), ("setting", 0, 0), ("ideal", 0), SKI, ("boots", 0),
+    ("skis", 0, 0), ("hire", 0, 4, 2, 0), ("could", 0, 5, 1, 0), ("choices", 0, 6, 1, 0), ("longest", 0, 3, 0),
+    ("swap", 2, 0), ("plan", 0), ("due",), ("busy", 4), ("bill", 2), ("price", 3), ("worn",), ("look", 2), ("sums",),
+    ("state",),
+]
+
+EVERY_ANSWER = [
+    0, 4, 0, 0, 0, 0, (0, 0, 0, 42), (1, 0, 0, 42), 0, 42, 3, (64, 2), 4, 3, 42, 161, 1, (1, 0), (2, 0, 1), (2, 1, 0, 42),
+    0, (2, 0, 0, 1, 0), 1, 1, (1, 2), 0, (1, 1), (50, 0), 70, 0, (0, 0, 4, 2, 0, 0), (0, 64, 4, 1, 1),
+    (0, 3, 2, 1, 1, 3, 4),
 ]
 
 # Each of these is refused after EVERY_CALL.
@@ -20,21 +27,41 @@ REFUSED = [
     ("begin", 0, 0, 0, 0), ("chart", [100], [210], [400], [77]), ("ski", 69, 0, 5, 5), ("boot", 149, 300),
     ("guest", 9, 80, 2, 1, 150), ("becomes", 0, 70, 175, 30, 4), ("becomes", 9, 70, 175, 30, 1), ("hire", 9, 5, 1, 0),
     ("hire", 0, 2, 1, 0), ("hire", 0, 5, 31, 0), ("hire", 0, 5, 1, 1), ("cancel", 0), ("cancel", 9), ("give", 0),
-    ("give", 9), ("back", 1), ("back", 9), ("serve", 9), ("days", 61), ("code", 9), ("setting", 0, 9), ("ideal", 9),
+    ("give", 2), ("give", 9), ("back", 1), ("back", 9), ("serve", 9), ("days", 61), ("code", 9), ("setting", 0, 9),
+    ("ideal", 9), ("boots", 9), ("skis", 0, 9), ("skis", 9, 0), ("could", 9, 5, 1, 0), ("could", 0, 2, 1, 0),
+    ("choices", 9, 5, 1, 0), ("choices", 0, 5, 0, 0), ("longest", 9, 5, 0), ("longest", 0, 400, 0), ("swap", 9, 0),
+    ("swap", 2, 9), ("swap", 0, 0), ("swap", 2, 0), ("plan", 9), ("bill", 0), ("bill", 1), ("bill", 9), ("price", 31),
+    ("look", 9),
 ]
 
+# Each of these looks, and changes nothing.
+LOOKS = [
+    ("code", 0), ("setting", 0, 0), ("ideal", 0), ("boots", 0), ("skis", 0, 0), ("could", 0, 3, 1, 0),
+    ("could", 0, 4, 1, 0), ("choices", 0, 3, 1, 0), ("choices", 0, 3, 30, 0), ("longest", 0, 3, 0), ("plan", 0),
+    ("plan", 1), ("due",), ("busy", 4), ("busy", HUGE), ("bill", 2), ("price", 30), ("worn",), ("look", 0), ("look", 1),
+    ("look", 2), ("sums",), ("state",),
+]
+
+LOOKING = tuple({call[0]: True for call in LOOKS})
+
 AFTER = [
-    ("hire", 0, 3, 4, 0), ("give", 2), ("code", 0), ("ideal", 0), ("days", 5), ("back", 2), ("serve", 0), SKI, BOOT,
-    GUEST, ("setting", 1, 1), ("hire", 1, 8, 1, 0),
+    ("hire", 0, 6, 4, 0), ("days", 2), ("give", 2), ("code", 0), ("ideal", 0), ("days", 5), ("due",), ("back", 2),
+    ("serve", 0), SKI, BOOT, GUEST, ("setting", 1, 1), ("hire", 1, 10, 1, 0), ("swap", 4, 2), ("worn",), ("sums",),
+    ("state",),
 ]
 
 
 class InterfaceTest(unittest.TestCase):
     def test_every_call_in_one_line(self):
-        self.assertEqual(answers(flat(EVERY_CALL)), [
-            1, 0, 1, 4, 1, 0, 1, 0, 1, 0, 1, 0, 4, 0, 0, 0, 42, 4, 1, 0, 0, 42, 1, 0, 1, 42, 1, 3, 2, 64, 2, 1, 4, 1, 3,
-            1, 42, 1, 161,
-        ])
+        self.assertEqual(ask(*EVERY_CALL), EVERY_ANSWER)
+        self.assertEqual(sorted({call[0] for call in EVERY_CALL}), sorted(NUMBER_OF))
+
+    def test_as_a_list_of_whole_numbers(self):
+        told = []
+        for answer in EVERY_ANSWER:
+            numbers = [answer] if isinstance(answer, int) else list(answer)
+            told += [len(numbers)] + numbers
+        self.assertEqual(answers(flat(EVERY_CALL)), told)
 
     def test_a_list_of_whole_numbers_is_given_back(self):
         told = answers(flat(EVERY_CALL + REFUSED))
@@ -62,11 +89,63 @@ class InterfaceTest(unittest.TestCase):
         first.clear()
         self.assertEqual(answers(line), kept)
 
-    def test_the_longest_line(self):
+    def test_every_call_with_the_least_and_the_greatest_numbers(self):
+        for before in ([], [BEGIN], SHOP, EVERY_CALL):
+            for number in range(2, 30):
+                for value in (0, HUGE):
+                    given = [value] * GIVEN[number]
+                    told = told_apart(answers(flat(before) + [number] + given))
+                    self.assertEqual(len(told), len(before) + 1, (number, value))
+
+
+class LongLinesTest(unittest.TestCase):
+    def test_rows_of_200_among_other_calls(self):
         wide = ("chart", list(range(200)), list(range(200)), list(range(200)), list(range(200)))
         calls = [BEGIN] + [wide] * 37 + [("days", 1)] * 218
         self.assertEqual((len(calls), len(flat(calls))), (256, 30226))
         self.assertEqual(ask(*calls), [0] + [-22] * 37 + list(range(1, 219)))
+
+    def test_256_charts_of_rows_of_200_as_far_as_they_go(self):
+        row = list(range(200))
+        calls = []
+        for count in range(148):
+            rows = [[], [], [], []]
+            rows[count % 4] = row
+            calls.append(("chart", *rows))
+        calls += [("chart", [], [], [], [])] * 107
+        self.assertEqual((len(calls) + 1, len(flat([BEGIN] + calls))), (256, 30880))
+        self.assertEqual(ask(BEGIN, *calls), [0] + [-22] * 255)
+        self.assertEqual(ask(*calls, ("chart", [], [], [], [])), [-11] * 256)
+
+    def test_255_charts_that_take_one_anothers_place(self):
+        ten = list(range(10, 110, 10))
+        charts = [("chart", ten, ten, [200, 300, 400, 500, 600, 700, 800, 900], [k % 241] * 80) for k in range(255)]
+        self.assertLessEqual(len(flat([BEGIN] + charts)), 31000)
+        self.assertEqual(ask(BEGIN, *charts), [0] + [10] * 255)
+        self.assertEqual(ask(BEGIN, BOOT, GUEST, *charts[:252], ("setting", 0, 0))[-2:], [10, 10])
+
+    def test_150_widest_charts(self):
+        rising = list(range(100, 116))
+        wide = ("chart", rising, rising, list(range(8)), [240] * 128)
+        calls = [BEGIN] + [wide] * 150 + [("state",)] * 105
+        self.assertEqual((len(calls), len(flat(calls))), (256, 5 + 150 * 173 + 105))
+        self.assertEqual(ask(*calls), [0] + [16] * 150 + [(0, 0, 0, 0, 0, 0, 16)] * 105)
+
+    def test_256_calls_of_each_kind(self):
+        for name, number in NUMBER_OF.items():
+            if name != "chart":
+                for value in (0, 1, HUGE):
+                    line = flat(EVERY_CALL) + [number, *[value] * GIVEN[number]] * (256 - len(EVERY_CALL))
+                    before = list(line)
+                    self.assertEqual(len(told_apart(answers(line))), 256, name)
+                    self.assertEqual(line, before, name)
+
+    def test_as_many_choices_as_there_can_be(self):
+        calls = SHOP + [SKI] * 16 + [BOOT] * 16 + [GUEST] + [("choices", 0, 0, 30, 0)] * 110
+        calls += [("longest", 0, 0, 0)] * (256 - len(calls))
+        told = ask(*calls)
+        self.assertEqual([len(answer) for answer in told[35:145]], [513] * 110)
+        self.assertEqual(told[145:], [30] * 111)
 
 
 class RefusalTest(unittest.TestCase):
@@ -84,9 +163,24 @@ class RefusalTest(unittest.TestCase):
 
     def test_looking_leaves_the_object_as_it_was(self):
         plain = ask(*EVERY_CALL, *AFTER)
-        for call in (("code", 0), ("setting", 0, 0), ("ideal", 0)):
+        for call in LOOKS:
             told = ask(*EVERY_CALL, call, *AFTER)
             self.assertEqual(told[len(EVERY_CALL) + 1:], plain[len(EVERY_CALL):], call)
+
+    def test_all_looks_the_same_before_and_after_each_look_and_each_refused_call(self):
+        many = len(LOOKS)
+        for call in LOOKS + REFUSED:
+            told = ask(*EVERY_CALL, *LOOKS, call, *LOOKS, call)
+            self.assertEqual(told[-many - 1:-1], told[-2 * many - 2:-many - 2], call)
+            self.assertEqual(told[-1], told[-many - 2], call)
+
+    def test_it_looks_the_same_whatever_is_out_late_or_worn(self):
+        out = [("days", 1), ("give", 2), ("hire", 0, 9, 1, 0), ("days", 9)]
+        for before in (out, out + [("back", 2)]):
+            for call in LOOKS + REFUSED:
+                told = ask(*EVERY_CALL, *before, *LOOKS, call, *LOOKS)
+                if isinstance(told[-len(LOOKS) - 1], int) and told[-len(LOOKS) - 1] < 0 or call in LOOKS:
+                    self.assertEqual(told[-len(LOOKS):], told[-2 * len(LOOKS) - 1:-len(LOOKS) - 1], call)
 
 
 def some_call(chance):
